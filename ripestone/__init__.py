@@ -1,0 +1,1 @@
+"""Ripestone: a table kept on panes that are carved in any order."""

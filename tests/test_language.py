@@ -1,0 +1,103 @@
+"""Those rules of the program's part of Python that can be counted: the rest is for the reader."""
+
+import ast
+import builtins
+import pathlib
+import re
+import unittest
+
+PACKAGE = pathlib.Path(__file__).resolve().parent.parent / "ripestone"
+OWN_NAMES = """len range enumerate zip min max sum abs sorted reversed int str bool list tuple dict set frozenset
+    isinstance ord repr any all divmod Exception ValueError TypeError KeyError IndexError LookupError
+    ZeroDivisionError ArithmeticError OverflowError RuntimeError NotImplementedError AttributeError StopIteration
+    """.split()
+BANNED_WORDS = """type typing typing_extensions enum Enum IntEnum StrEnum Flag IntFlag Generic Protocol ABC ABCMeta
+    namedtuple NamedTuple TypedDict TYPE_CHECKING abstractmethod""".split()
+BANNED_PIECES = ("dataclass", "overload", "contextmanager")
+DOUBLE_UNDERSCORES = ("__init__", "__eq__", "__repr__", "__str__", "__len__", "__all__", "__version__")
+BANNED_NODES = (
+    ast.With, ast.Match, ast.Delete, ast.Global, ast.Nonlocal, ast.Assert, ast.Yield, ast.YieldFrom, ast.Await,
+    ast.AsyncFunctionDef, ast.AsyncFor, ast.AsyncWith, ast.SetComp, ast.DictComp, ast.GeneratorExp, ast.NamedExpr,
+    ast.Starred, ast.Div, ast.Import, ast.AnnAssign,
+)
+PLAIN_METHODS = """append clear copy count endswith extend find get index insert isalnum isalpha isdigit islower
+    isspace isupper items join keys ljust lower lstrip partition pop remove replace reverse rfind rjust rpartition
+    rsplit rstrip setdefault split splitlines startswith strip update upper values zfill bit_length""".split()
+
+
+def sources():
+    return sorted(PACKAGE.rglob("*.py"))
+
+
+def nodes():
+    for path in sources():
+        for node in ast.walk(ast.parse(path.read_text())):
+            yield path.name, node
+
+
+class LanguageTest(unittest.TestCase):
+    def test_only_plain_files_lie_in_the_package(self):
+        for path in PACKAGE.rglob("*"):
+            if "__pycache__" not in path.parts:
+                self.assertRegex(path.name, r"^[a-z0-9_]+\.py$")
+        self.assertIn(PACKAGE / "__init__.py", sources())
+
+    def test_signs_and_sizes(self):
+        for path in sources():
+            text = path.read_text()
+            lines = text.split("\n")
+            self.assertRegex(text, r"\A[ -~\n]*\Z", path.name)
+            self.assertLessEqual(len(lines), 401, path.name)
+            self.assertLessEqual(max(len(line) for line in lines), 120, path.name)
+
+    def test_functions_are_short(self):
+        for name, node in nodes():
+            if isinstance(node, ast.FunctionDef):
+                self.assertLessEqual(node.end_lineno - node.lineno + 1, 40, (name, node.name))
+
+    def test_words_that_stand_nowhere(self):
+        for path in sources():
+            text = path.read_text()
+            words = re.findall(r"\w+", text)
+            self.assertEqual([word for word in words if word in BANNED_WORDS], [], path.name)
+            self.assertEqual([piece for piece in BANNED_PIECES if piece in text], [], path.name)
+
+    def test_statements_and_expressions(self):
+        for name, node in nodes():
+            self.assertNotIsInstance(node, BANNED_NODES, (name, getattr(node, "lineno", None)))
+            if isinstance(node, (ast.For, ast.While)):
+                self.assertEqual(node.orelse, [], name)
+            if isinstance(node, ast.Assign):
+                self.assertEqual(len(node.targets), 1, name)
+            if isinstance(node, (ast.FunctionDef, ast.ClassDef)):
+                self.assertEqual(node.decorator_list, [], name)
+            if isinstance(node, ast.Constant):
+                self.assertIn(type(node.value), (int, str, bool, type(None)), name)
+
+    def test_imports_are_of_the_package_alone(self):
+        for name, node in nodes():
+            if isinstance(node, ast.ImportFrom):
+                self.assertEqual(node.level, 0, name)
+                self.assertRegex(node.module, r"^ripestone\.\w+$")
+                self.assertNotIn("*", [alias.name for alias in node.names])
+
+    def test_names(self):
+        for name, node in nodes():
+            if isinstance(node, ast.Name) and hasattr(builtins, node.id):
+                self.assertIn(node.id, OWN_NAMES, name)
+                self.assertIsInstance(node.ctx, ast.Load, (name, node.id))
+            if isinstance(node, ast.arg):
+                self.assertFalse(hasattr(builtins, node.arg), (name, node.arg))
+            for bound in (getattr(node, "id", None), getattr(node, "arg", None), getattr(node, "attr", None)):
+                if bound is not None and bound not in DOUBLE_UNDERSCORES:
+                    self.assertFalse(bound.startswith("_"), (name, bound))
+
+    def test_methods_of_python_are_those_that_are_listed(self):
+        known = {method for kind in (str, int, list, tuple, dict, set, bytes) for method in dir(kind)}
+        for name, node in nodes():
+            if isinstance(node, ast.Attribute) and node.attr in known:
+                self.assertIn(node.attr, PLAIN_METHODS + ["__init__", "add", "discard", "title"], (name, node.attr))
+
+
+if __name__ == "__main__":
+    unittest.main()
