@@ -12,15 +12,20 @@ def needs_of(changes):
     return [change[NEEDS] for change in changes]
 
 
-# What is ripe counts as held at once: whatever needs a change comes behind it.
+# The numbers are of one pane, rising, none of them held: whatever needs a change comes behind it,
+# so one walk upwards finds all that are ripe.
+def ripe_among(changes, held, numbers):
+    found = {}
+    for number in numbers:
+        if all([need in held or need in found for need in changes[number][NEEDS]]):
+            found[number] = True
+    return list(found)
+
+
 def ripe(changes, settled, pane):
     held = marked(settled)
-    found = []
-    for number, change in enumerate(changes):
-        if change[PANE] == pane and number not in held and all([need in held for need in change[NEEDS]]):
-            held[number] = True
-            found.append(number)
-    return found
+    numbers = [number for number, change in enumerate(changes) if change[PANE] == pane and number not in held]
+    return ripe_among(changes, held, numbers)
 
 
 # Upwards, so that the greatest number of a place is the last to be put there.

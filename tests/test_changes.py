@@ -3,7 +3,9 @@ import random
 import unittest
 
 from ripestone.changes import laid, needs_of, ripe
-from tests.ground import all_needs, closed_sets, scattered_needs, subsets, told_often
+from tests.ground import (
+    all_needs, closed_sets, laid_by_words, ripe_by_words, scattered_needs, subsets, told_often, with_needs,
+)
 
 # Two panes that wait for one another: 1 for 0, 3 for 1 and 2, 4 for 3; 5 for 2 alone; 6 for nothing.
 CHANGES = [
@@ -16,32 +18,6 @@ CHANGES = [
     (2, 0, (16,), ()),
 ]
 MANY = 5000
-
-
-def with_needs(panes, needs):
-    return [(pane, 0, (number,), tuple(needs[number])) for number, pane in enumerate(panes)]
-
-
-def is_ripe_by_words(changes, settled, pane, number):
-    if number in settled or changes[number][0] != pane:
-        return False
-    return all(need in settled or is_ripe_by_words(changes, settled, pane, need) for need in changes[number][3])
-
-
-def ripe_by_words(changes, settled, pane):
-    return [number for number in range(len(changes)) if is_ripe_by_words(changes, settled, pane, number)]
-
-
-def thing_by_words(stone, changes, some, pane, place):
-    there = [number for number in some if changes[number][:2] == (pane, place)]
-    return changes[max(there)][2] if there else stone[pane][place]
-
-
-def laid_by_words(stone, changes, some):
-    return [
-        [thing_by_words(stone, changes, some, pane, place) for place in range(len(stone[pane]))]
-        for pane in range(len(stone))
-    ]
 
 
 class NeedsOfTest(unittest.TestCase):

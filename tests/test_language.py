@@ -29,10 +29,29 @@ def sources():
     return sorted(PACKAGE.rglob("*.py"))
 
 
+def trees():
+    return [(path, ast.parse(path.read_text())) for path in sources()]
+
+
 def nodes():
-    for path in sources():
-        for node in ast.walk(ast.parse(path.read_text())):
+    for path, tree in trees():
+        for node in ast.walk(tree):
             yield path.name, node
+
+
+def drawn_from(tree):
+    return [node.module for node in ast.walk(tree) if isinstance(node, ast.ImportFrom)]
+
+
+def local_names(tree):
+    for node in ast.walk(tree):
+        if isinstance(node, ast.arg):
+            yield node.arg
+    for function in ast.walk(tree):
+        if isinstance(function, (ast.FunctionDef, ast.Lambda, ast.ListComp)):
+            for node in ast.walk(function):
+                if isinstance(node, ast.Name) and isinstance(node.ctx, ast.Store):
+                    yield node.id
 
 
 class LanguageTest(unittest.TestCase):
@@ -91,6 +110,75 @@ class LanguageTest(unittest.TestCase):
             for bound in (getattr(node, "id", None), getattr(node, "arg", None), getattr(node, "attr", None)):
                 if bound is not None and bound not in DOUBLE_UNDERSCORES:
                     self.assertFalse(bound.startswith("_"), (name, bound))
+
+    def test_no_local_is_called_like_a_class_or_an_import(self):
+        for path, tree in trees():
+            taken = {node.name for node in tree.body if isinstance(node, ast.ClassDef)}
+            for node in tree.body:
+                if isinstance(node, ast.ImportFrom):
+                    taken |= {alias.asname or alias.name for alias in node.names}
+            self.assertEqual(sorted(taken & set(local_names(tree))), [], path.name)
+
+    def test_names_are_bound_once_at_a_files_top(self):
+        for path, tree in trees():
+            bound = []
+            for node in tree.body:
+                if isinstance(node, (ast.FunctionDef, ast.ClassDef)):
+                    bound.append(node.name)
+                if isinstance(node, ast.Assign):
+                    bound.append(node.targets[0].id)
+                if isinstance(node, ast.ImportFrom):
+                    bound.extend(alias.asname or alias.name for alias in node.names)
+            self.assertEqual(len(bound), len(set(bound)), path.name)
+
+    def test_imports_name_the_file_that_defines(self):
+        defined = {}
+        for path, tree in trees():
+            names = [node.name for node in tree.body if isinstance(node, (ast.FunctionDef, ast.ClassDef))]
+            names += [node.targets[0].id for node in tree.body if isinstance(node, ast.Assign)]
+            defined["ripestone." + path.stem] = names
+        for name, node in nodes():
+            if isinstance(node, ast.ImportFrom):
+                for alias in node.names:
+                    self.assertIn(alias.name, defined[node.module], name)
+
+    def test_no_two_files_draw_from_one_another(self):
+        left = {"ripestone." + path.stem: drawn_from(tree) for path, tree in trees()}
+        while left:
+            ended = [name for name in left if not any(other in left for other in left[name])]
+            self.assertTrue(ended, left)
+            left = {name: left[name] for name in left if name not in ended}
+
+    def test_no_name_is_a_method_and_a_value(self):
+        methods = set()
+        stored = set()
+        for name, node in nodes():
+            if isinstance(node, ast.ClassDef):
+                own = [one.name for one in node.body if isinstance(one, ast.FunctionDef)]
+                self.assertEqual(len(own), len(set(own)), (name, node.name))
+                methods |= set(own)
+            if isinstance(node, ast.Attribute) and isinstance(node.ctx, ast.Store):
+                stored.add(node.attr)
+        self.assertEqual(sorted(methods & stored), [])
+
+    def test_is_stands_beside_none_true_and_false_alone(self):
+        for name, node in nodes():
+            if isinstance(node, ast.Compare):
+                for sign, other in zip(node.ops, node.comparators):
+                    if isinstance(sign, (ast.Is, ast.IsNot)):
+                        self.assertIsInstance(other, ast.Constant, name)
+                        self.assertIn(other.value, (None, True, False), name)
+
+    def test_no_rest_sign_within_a_text(self):
+        for name, node in nodes():
+            if isinstance(node, ast.Constant) and isinstance(node.value, str):
+                self.assertNotIn("%", node.value, name)
+
+    def test_comprehensions_have_one_for_and_at_most_one_if(self):
+        for name, node in nodes():
+            if isinstance(node, ast.ListComp):
+                self.assertEqual(len(node.generators), 1, name)
+                self.assertLessEqual(len(node.generators[0].ifs), 1, name)
 
     def test_methods_of_python_are_those_that_are_listed(self):
         known = {method for kind in (str, int, list, tuple, dict, set, bytes) for method in dir(kind)}

@@ -5,10 +5,17 @@ import unittest
 
 from ripestone.changes import laid, needs_of, ripe
 from ripestone.needs import chain, closure, is_closed
+from ripestone.records import blank_stone, fresh_age, is_sealed, record_at, seal_spot, spot_of, worth_by
+from ripestone.strings import is_sound, loose_boxes, rows_found, string_of
+from ripestone.turns import plan, slow_chain, turns
+from tests.ground import lists_in, spoil
 
 NEEDS = [(), (0,), (1, 0), (), (2, 3)]
 CHANGES = [(0, 0, (5,), ()), (1, 0, (6,), (0,)), (0, 1, (7,), (0,)), (0, 0, (8,), (0, 1))]
 STONE = [[(0,), (1,)], [(2,), (3,)], [(4,)]]
+# The string is 3, 1; box 2 is loose; age 2 is sealed.
+TABLE_STONE = [[(0, 3, -1, -1, 0), (7, 0, 4, 5, 1), (2,)], [(9, 0, 3, 6, 2), (5, 1, -1, 8, 0), (0,)]]
+BLANK = [[(0, 0, -1, -1, 0), (0,)]]
 
 # Of each function also such as tell an empty list or just what was handed in: there a shortcut would show.
 ASKED = (
@@ -31,25 +38,36 @@ ASKED = (
     (laid, (STONE, CHANGES, [0])),
     (laid, (STONE, CHANGES, [])),
     (laid, (STONE, [], [])),
+    (turns, (CHANGES, [])),
+    (turns, (CHANGES, [1, 0, 1])),
+    (turns, ([], [])),
+    (slow_chain, (CHANGES, [], 3)),
+    (slow_chain, (CHANGES, [1, 0, 1], 0)),
+    (plan, (CHANGES, [], [3, 2, 3])),
+    (plan, (CHANGES, [0, 2, 0], [3])),
+    (plan, (CHANGES, [0], [0])),
+    (plan, (CHANGES, [], [])),
+    (plan, (CHANGES, [], [0])),
+    (blank_stone, (3, 2)),
+    (spot_of, (TABLE_STONE, 3)),
+    (seal_spot, (TABLE_STONE, 3)),
+    (record_at, (TABLE_STONE, 3)),
+    (is_sealed, (TABLE_STONE, 2)),
+    (worth_by, (TABLE_STONE, (5, 0, 1, 2, 2))),
+    (fresh_age, (TABLE_STONE,)),
+    (string_of, (TABLE_STONE,)),
+    (string_of, (BLANK,)),
+    (loose_boxes, (TABLE_STONE,)),
+    (loose_boxes, (BLANK,)),
+    (is_sound, (TABLE_STONE,)),
+    (is_sound, (BLANK + BLANK,)),
+    (is_sound, (STONE,)),
+    (is_sound, ([[[1, 2], [3]], (4,)],)),
+    (rows_found, (TABLE_STONE,)),
+    (rows_found, (BLANK,)),
 )
-TELLING = tuple(asked for asked in ASKED if asked[0] != is_closed)
-
-
-def lists_in(value):
-    """The value's own lists, itself among them, each as often as it comes."""
-    if isinstance(value, (list, tuple)):
-        found = [value] if isinstance(value, list) else []
-        for inner in value:
-            found = found + lists_in(inner)
-        return found
-    return []
-
-
-def spoil(value):
-    for one in lists_in(value):
-        one.reverse()
-        one.append((99,))
-        one.append((98,))
+NOT_LISTS = (is_closed, spot_of, seal_spot, record_at, is_sealed, worth_by, fresh_age, is_sound)
+TELLING = tuple(asked for asked in ASKED if asked[0] not in NOT_LISTS)
 
 
 class OwnListsTest(unittest.TestCase):
@@ -174,6 +192,45 @@ class NothingKeptTest(unittest.TestCase):
         some.append(1)
         self.assertEqual(ripe(changes, some, 0), [])
         self.assertEqual(laid(stone, changes, some), [[(7,)], [(3,)]])
+
+    def test_turns(self):
+        changes = [(0, 0, (5,), ()), (1, 0, (6,), (0,))]
+        settled = []
+        goals = [1]
+        self.assertEqual(turns(changes, settled), [1, 2])
+        self.assertEqual(slow_chain(changes, settled, 1), [1, 0])
+        self.assertEqual(plan(changes, settled, goals), [0, 1])
+        settled.append(0)
+        self.assertEqual(turns(changes, settled), [0, 1])
+        self.assertEqual(slow_chain(changes, settled, 1), [1])
+        self.assertEqual(plan(changes, settled, goals), [1])
+        goals[0] = 0
+        self.assertEqual(plan(changes, settled, goals), [])
+        changes[1] = (0, 0, (6,), (0,))
+        settled.clear()
+        self.assertEqual(turns(changes, settled), [1, 1])
+        self.assertEqual(slow_chain(changes, settled, 1), [1])
+        self.assertEqual(plan(changes, settled, [1]), [0])
+
+    def test_records_and_strings(self):
+        stone = copy.deepcopy(TABLE_STONE)
+        self.assertEqual(string_of(stone), [3, 1])
+        self.assertEqual(rows_found(stone), [(5, 8), (9, 6)])
+        self.assertIs(is_sound(stone), True)
+        self.assertIs(is_sealed(stone, 2), True)
+        self.assertEqual(fresh_age(stone), 3)
+        stone[0][0] = (0, 2, -1, -1, 0)
+        stone[0][1] = (-1, 0, 4, 5, 1)
+        stone[0][2] = (6,)
+        stone[1][2] = (1,)
+        self.assertEqual(string_of(stone), [2])
+        self.assertEqual(loose_boxes(stone), [1, 3])
+        self.assertEqual(rows_found(stone), [(-1, 5)])
+        self.assertEqual(record_at(stone, 2), (-1, 0, 4, 5, 1))
+        self.assertIs(is_sealed(stone, 2), False)
+        self.assertEqual(fresh_age(stone), 7)
+        stone[0][1] = (-1, 2, 4, 5, 1)
+        self.assertIs(is_sound(stone), False)
 
 
 if __name__ == "__main__":
