@@ -5,6 +5,7 @@ import unittest
 
 from ripestone.changes import laid, needs_of, ripe
 from ripestone.needs import chain, closure, is_closed
+from ripestone.parts import plainly
 from ripestone.records import blank_stone, fresh_age, is_sealed, record_at, seal_spot, spot_of, worth_by
 from ripestone.strings import is_sound, loose_boxes, rows_found, string_of
 from ripestone.turns import plan, slow_chain, turns
@@ -65,6 +66,9 @@ ASKED = (
     (is_sound, ([[[1, 2], [3]], (4,)],)),
     (rows_found, (TABLE_STONE,)),
     (rows_found, (BLANK,)),
+    (plainly, ([(1, 5), (4, 0)], [("put", 4, 2), ("take", 1)])),
+    (plainly, ([(1, 5), (4, 0)], [])),
+    (plainly, ([], [])),
 )
 NOT_LISTS = (is_closed, spot_of, seal_spot, record_at, is_sealed, worth_by, fresh_age, is_sound)
 TELLING = tuple(asked for asked in ASKED if asked[0] not in NOT_LISTS)

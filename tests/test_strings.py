@@ -5,6 +5,7 @@ import unittest
 
 from ripestone.records import blank_stone
 from ripestone.strings import is_sound, loose_boxes, rows_found, string_of
+from tests.ground import is_sound_by_words, strung
 
 SIZES = [(panes, rows) for panes in range(1, 9) for rows in range(1, 9)]
 GREAT = 10**60 - 1
@@ -13,15 +14,6 @@ WEIRD = (
     {0: 0}, set(), frozenset((1, 2, 3, 4, 5)), range(5), object(), int, len, Exception("none"), Ellipsis, (), (None,),
     ((0,),), (0.0,), ("0",), ([0],), (0, 0), (0, 0, 0, 0), (0, 0, 0, 0, 0, 0), (0, 0, 0, 0, 0.0), (0, 0, 0, 0, "0"),
 )
-
-
-def strung(panes, rows, boxes, keys=None):
-    """A stone with the string of these boxes; of box b the key is told or the place in the string, the now is b."""
-    stone = blank_stone(panes, rows)
-    for place, (box, following) in enumerate(zip([0] + boxes, boxes + [0])):
-        key = place if keys is None or place == 0 else keys[place - 1]
-        stone[box % panes][box // panes] = (key, following, -1, box, 0)
-    return stone
 
 
 def with_record(stone, box, record):
@@ -44,21 +36,6 @@ def with_number(stone, pane, place, index, number):
 
 def things_of(stone):
     return [(pane, place) for pane in range(len(stone)) for place in range(len(stone[0]))]
-
-
-def is_sound_by_words(stone):
-    """Of a stone of the right form, its numbers within their bounds: the string alone."""
-    panes = len(stone)
-    records = [stone[box % panes][box // panes] for box in range(panes * (len(stone[0]) - 1))]
-    box = records[0][1]
-    string = []
-    while box != 0:
-        if box in string:
-            return False
-        string.append(box)
-        box = records[box][1]
-    keys = [records[box][0] for box in string]
-    return keys == sorted(set(keys)) and all(records[box][4] != 0 or records[box][3] >= 0 for box in string)
 
 
 class StringTest(unittest.TestCase):
