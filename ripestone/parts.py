@@ -3,6 +3,7 @@
 from ripestone.errors import NoKey, NoWorth, Twice
 
 PUT = "put"
+TAKE = "take"
 
 
 def is_put(part):

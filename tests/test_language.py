@@ -54,6 +54,23 @@ def local_names(tree):
                     yield node.id
 
 
+def is_plain(value, functions):
+    """A written value, or a tuple, list or dict of such and of functions above; no list or dict within another one."""
+    if isinstance(value, ast.Dict):
+        return all(is_plain_within(one, functions) for one in value.keys + value.values)
+    if isinstance(value, ast.List):
+        return all(is_plain_within(one, functions) for one in value.elts)
+    return is_plain_within(value, [])
+
+
+def is_plain_within(value, functions):
+    if isinstance(value, ast.UnaryOp):
+        return isinstance(value.op, ast.USub) and isinstance(value.operand, ast.Constant)
+    if isinstance(value, ast.Tuple):
+        return all(is_plain_within(one, functions) for one in value.elts)
+    return isinstance(value, ast.Constant) or isinstance(value, ast.Name) and value.id in functions
+
+
 class LanguageTest(unittest.TestCase):
     def test_only_plain_files_lie_in_the_package(self):
         for path in PACKAGE.rglob("*"):
@@ -130,6 +147,25 @@ class LanguageTest(unittest.TestCase):
                 if isinstance(node, ast.ImportFrom):
                     bound.extend(alias.asname or alias.name for alias in node.names)
             self.assertEqual(len(bound), len(set(bound)), path.name)
+
+    def test_values_at_a_files_top_are_plain(self):
+        for path, tree in trees():
+            for place, node in enumerate(tree.body):
+                self.assertIsInstance(node, (ast.Expr, ast.ImportFrom, ast.FunctionDef, ast.ClassDef, ast.Assign))
+                if isinstance(node, ast.Assign):
+                    above = [one.name for one in tree.body[:place] if isinstance(one, ast.FunctionDef)]
+                    self.assertTrue(is_plain(node.value, above), (path.name, node.targets[0].id))
+                if isinstance(node, ast.Expr):
+                    self.assertIsInstance(node.value, ast.Constant, path.name)
+
+    def test_errors_that_are_taken(self):
+        own = {node.name for name, node in nodes() if isinstance(node, ast.ClassDef) and name == "errors.py"}
+        for name, node in nodes():
+            if isinstance(node, ast.ExceptHandler):
+                self.assertIsInstance(node.type, ast.Name, name)
+                self.assertIn(node.type.id, own | {"KeyError", "ZeroDivisionError", "StopIteration"}, name)
+            if isinstance(node, ast.Try):
+                self.assertEqual(node.finalbody, [], name)
 
     def test_imports_name_the_file_that_defines(self):
         defined = {}

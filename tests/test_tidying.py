@@ -8,8 +8,8 @@ from ripestone.strings import is_sound, rows_found
 from ripestone.tidying import Tidier
 from ripestone.weaver import Weaver
 from tests.ground import (
-    PlainWeaver, closed_sets, laid_by_words, record_by_words, rows_by_words, sound_by_chance, spoil, string_by_words,
-    strung, told_of_weaver, worth_by_words,
+    PlainWeaver, aged, closed_sets, laid_by_words, record_by_words, rows_by_words, sound_by_chance, spoil,
+    string_by_words, strung, told_of_weaver, worth_by_words,
 )
 
 GREAT = 10**60 - 1
@@ -17,17 +17,6 @@ GREAT = 10**60 - 1
 SEALS = ((0, 2), (1, 2), (2, 2))
 # Key 10: not sealed, its was counts; 20: sealed, its now counts; 30: age 0; 40: not sealed, none; 50: sealed, none.
 STRUNG = [(2, 10, 5, 6, 1), (4, 20, 5, 7, 4), (1, 30, 5, 8, 0), (5, 40, -1, 9, 2), (3, 50, 5, -1, 4)]
-
-
-def aged(panes, rows, strung_boxes, seals):
-    """A stone with the string of such (box, key, was, now, age)."""
-    stone = strung(panes, rows, [one[0] for one in strung_boxes], [one[1] for one in strung_boxes])
-    for box, key, was, now, age in strung_boxes:
-        following = record_by_words(stone, box)[1]
-        stone[box % panes][box // panes] = (key, following, was, now, age)
-    for pane, seal in enumerate(seals):
-        stone[pane][rows] = (seal,)
-    return stone
 
 
 def came_up(stone):

@@ -4,7 +4,8 @@ import unittest
 
 from ripestone.turns import plan, slow_chain, turns
 from tests.ground import (
-    all_needs, closed_sets, ripe_by_words, scattered_changes, subsets, told_often, turn_by_words, with_needs,
+    all_needs, closed_sets, plan_by_words, ripe_by_words, scattered_changes, slow_chain_by_words, subsets, told_often,
+    turns_by_words, wanted_by_words, with_needs,
 )
 
 # Three panes: 1 and 8 wait in pane 0, 3 for 1 and 2, 4 for 3, 6 for 4 of another pane and 5 of its own, 7 for 6.
@@ -14,47 +15,6 @@ CHANGES = with_needs(
 )
 ALL = list(range(9))
 MANY = 5000
-
-
-def turns_by_words(changes, settled):
-    return [turn_by_words(changes, settled, number) for number in range(len(changes))]
-
-
-def gives_turn(changes, settled, number, need):
-    step = 0 if changes[need][0] == changes[number][0] else 1
-    return need not in settled and turn_by_words(changes, settled, need) + step
-
-
-def slow_chain_by_words(changes, settled, goal):
-    if goal in settled:
-        return []
-    links = [goal]
-    while turn_by_words(changes, settled, links[-1]) > 1:
-        last = links[-1]
-        turn = turn_by_words(changes, settled, last)
-        links.append(min(need for need in changes[last][3] if gives_turn(changes, settled, last, need) == turn))
-    return links
-
-
-def wanted_by_words(changes, settled, goals):
-    wanted = set()
-    for goal in goals:
-        if goal not in settled:
-            wanted |= {goal} | wanted_by_words(changes, settled, changes[goal][3])
-    return wanted
-
-
-def plan_by_words(changes, settled, goals):
-    wanted = wanted_by_words(changes, settled, goals)
-    known = turns_by_words(changes, settled)
-    done = set(settled)
-    told = []
-    for turn in range(1, max([known[number] for number in wanted], default=0) + 1):
-        for pane in range(max(change[0] for change in changes) + 1):
-            if any(changes[number][0] == pane and known[number] == turn for number in wanted - done):
-                told.append(pane)
-                done |= set(ripe_by_words(changes, done, pane))
-    return told
 
 
 def small_changes(many, panes):
